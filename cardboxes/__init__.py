@@ -1,0 +1,1 @@
+"""Cardboxes: families of switch settings, shown sets and solid sets."""

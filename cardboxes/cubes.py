@@ -1,0 +1,78 @@
+"""Cubes in boxes, and the sets of switches that are solid."""
+
+from cardboxes.boxes import is_number, sets_outside, size_of, subsets_of
+
+
+def cube_cards(cube):
+    """Return the ascending tuple of the cards of the cube (base, directions)."""
+    base, directions = cube
+    return tuple([base + part for part in subsets_of(directions)])
+
+
+def first_missing(cards, cube):
+    """Return the smallest card of the cube that is not among the cards, or None."""
+    for card in cube_cards(cube):
+        if card not in cards:
+            return card
+    return None
+
+
+def bases_of(box, switches):
+    """Return the ascending tuple of the bases of the cubes in the box with these directions."""
+    n, cards = box
+    return tuple([base for base in sets_outside(n, switches) if first_missing(cards, (base, switches)) is None])
+
+
+def is_solid(box, switches):
+    """Return whether the box contains a cube with these directions."""
+    return len(bases_of(box, switches)) > 0
+
+
+def solid_sets(box):
+    """Return the ascending tuple of all solid sets."""
+    return tuple([switches for switches in range(1 << box[0]) if is_solid(box, switches)])
+
+
+def solid_certificate(box, switches):
+    """Return ("solid", smallest base), or ("broken", a missing card for each base)."""
+    bases = bases_of(box, switches)
+    if len(bases) > 0:
+        return ("solid", bases[0])
+    n, cards = box
+    return ("broken", tuple([first_missing(cards, (base, switches)) for base in sets_outside(n, switches)]))
+
+
+def solid_holds(box, switches, value):
+    """Return whether the value proves that the set is solid, or that it is not."""
+    if not isinstance(value, tuple) or len(value) != 2:
+        return False
+    word, proof = value
+    if word == "solid":
+        return is_number(proof) and proof in bases_of(box, switches)
+    return word == "broken" and broken_holds(box, switches, proof)
+
+
+def broken_holds(box, switches, value):
+    """Return whether the value is a tuple with one card outside of the box for each possible base."""
+    n, cards = box
+    bases = sets_outside(n, switches)
+    if not isinstance(value, tuple) or len(value) != len(bases):
+        return False
+    for base, card in zip(bases, value):
+        # A bool equals a card, so membership alone would let it pass.
+        if not is_number(card) or card in cards or card not in cube_cards((base, switches)):
+            return False
+    return True
+
+
+def all_cubes(box):
+    """Return the ascending tuple of all cubes whose cards all belong to the box."""
+    n, cards = box
+    cubes = [(base, directions) for base in cards for directions in sets_outside(n, base)]
+    return tuple([cube for cube in cubes if first_missing(cards, cube) is None])
+
+
+def cube_counts(box):
+    """Return for each size from 0 to n how many cubes of this size are in the box."""
+    sizes = [size_of(directions) for base, directions in all_cubes(box)]
+    return tuple([sizes.count(size) for size in range(box[0] + 1)])

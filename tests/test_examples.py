@@ -1,0 +1,90 @@
+"""The examples of DOC.md, point by point, as Python sessions."""
+
+import unittest
+
+EXAMPLES_4 = """
+>>> from cardboxes.boxes import is_box
+>>> [is_box((2, (0, 1, 3))), is_box((2, (0, 4))), is_box((2, (0, True)))]
+[True, False, False]
+
+>>> from cardboxes.boxes import box_error
+>>> box_error((2, (1, 0)))
+(1, 'order')
+
+>>> from cardboxes.boxes import opposite_box
+>>> opposite_box((2, (0, 1, 3)))
+(2, (2,))
+
+>>> from cardboxes.boxes import card_distance
+>>> card_distance(1, 6)
+3
+
+>>> from cardboxes.boxes import size_of
+>>> size_of(6)
+2
+"""
+
+EXAMPLES_6 = """
+>>> from cardboxes.cubes import cube_cards
+>>> cube_cards((4, 3))
+(4, 5, 6, 7)
+
+>>> from cardboxes.cubes import bases_of
+>>> box = (2, (0, 1, 3))
+>>> [bases_of(box, 1), bases_of(box, 2), bases_of(box, 3)]
+[(0,), (1,), ()]
+
+>>> from cardboxes.cubes import is_solid
+>>> is_solid((2, (0, 1, 3)), 2)
+True
+
+>>> from cardboxes.cubes import solid_sets
+>>> box = (3, (1, 2, 3, 4, 5, 6))
+>>> solid_sets(box)
+(0, 1, 2, 4)
+
+>>> from cardboxes.cubes import solid_certificate
+>>> box = (2, (0, 1, 3))
+>>> [solid_certificate(box, 2), solid_certificate(box, 3)]
+[('solid', 1), ('broken', (2,))]
+
+>>> from cardboxes.cubes import solid_holds
+>>> box = (2, (0, 1, 3))
+>>> [solid_holds(box, 3, ('broken', (2,))), solid_holds(box, 3, ('broken', (1,)))]
+[True, False]
+
+>>> from cardboxes.cubes import all_cubes
+>>> all_cubes((2, (0, 1, 3)))
+((0, 0), (0, 1), (1, 0), (1, 2), (3, 0))
+
+>>> from cardboxes.cubes import cube_counts
+>>> cube_counts((2, (0, 1, 3)))
+(3, 2, 0)
+"""
+
+
+def session_result(session):
+    """Run the lines of one session and return the repr of its last expression."""
+    *lines, last = [line[4:] for line in session.splitlines() if line.startswith(">>> ")]
+    names = {}
+    for line in lines:
+        exec(line, names)
+    return repr(eval(last, names))
+
+
+class ExamplesTest(unittest.TestCase):
+    def run_sessions(self, text, many):
+        sessions = text.strip().split("\n\n")
+        self.assertEqual(len(sessions), many)
+        for session in sessions:
+            self.assertEqual(session_result(session), session.splitlines()[-1], session)
+
+    def test_point_4(self):
+        self.run_sessions(EXAMPLES_4, 5)
+
+    def test_point_6(self):
+        self.run_sessions(EXAMPLES_6, 8)
+
+
+if __name__ == "__main__":
+    unittest.main()

@@ -1,0 +1,157 @@
+"""Rules of LANGUAGE.md that can be read off the files of the package.
+
+Not every rule is here: a new file is still to be held against the whole list.
+"""
+
+import ast
+import builtins
+import os
+import re
+import tokenize
+import unittest
+
+ROOT = os.path.dirname(os.path.dirname(os.path.abspath(__file__)))
+PACKAGE = os.path.join(ROOT, "cardboxes")
+
+BUILTINS = """len range enumerate zip min max sum abs sorted reversed int str bool bytes list tuple dict set
+frozenset isinstance ord repr any all divmod iter next Exception ValueError TypeError KeyError IndexError
+LookupError ZeroDivisionError ArithmeticError OverflowError RuntimeError NotImplementedError AttributeError
+StopIteration NotImplemented super property staticmethod classmethod""".split()
+
+METHODS = """append clear copy count endswith extend find get index insert isalnum isalpha isdigit islower isspace
+isupper items join keys ljust lower lstrip partition pop remove replace reverse rfind rjust rpartition rsplit
+rstrip setdefault split splitlines startswith strip update upper values zfill bit_length add discard sort
+removeprefix removesuffix isascii isdecimal""".split()
+
+BARRED_WORDS = """type typing typing_extensions enum Enum IntEnum StrEnum Flag IntFlag Generic Protocol ABC ABCMeta
+namedtuple NamedTuple TypedDict TYPE_CHECKING abstractmethod""".split()
+
+BARRED_NODES = (
+    ast.Import, ast.Global, ast.AsyncFor, ast.AsyncFunctionDef, ast.AsyncWith, ast.Await, ast.Div, ast.MatMult,
+)
+
+
+def package_files():
+    return sorted(name for name in os.listdir(PACKAGE) if name != "__pycache__")
+
+
+def read(name):
+    with open(os.path.join(PACKAGE, name), "rb") as file:
+        return file.read().decode("utf-8")
+
+
+def each_file():
+    for name in package_files():
+        text = read(name)
+        yield name, text, ast.parse(text, name)
+
+
+def functions_in(tree):
+    return [node for node in ast.walk(tree) if isinstance(node, ast.FunctionDef)]
+
+
+def module_names(tree):
+    """All names that a file binds at module level, each as often as it is bound."""
+    found = []
+    for node in tree.body:
+        if isinstance(node, ast.Assign):
+            found += [target.id for target in node.targets]
+        elif isinstance(node, ast.ImportFrom):
+            found += [alias.asname or alias.name for alias in node.names]
+        elif isinstance(node, (ast.FunctionDef, ast.ClassDef)):
+            found.append(node.name)
+    return found
+
+
+def local_names(tree):
+    names = [node.id for node in ast.walk(tree) if isinstance(node, ast.Name) and not isinstance(node.ctx, ast.Load)]
+    return names + [node.arg for node in ast.walk(tree) if isinstance(node, ast.arg)]
+
+
+class LanguageTest(unittest.TestCase):
+    def test_files(self):
+        self.assertIn("__init__.py", package_files())
+        for name in package_files():
+            self.assertRegex(name, r"\A(__init__|__main__|[a-z][a-z0-9_]*)\.py\Z")
+
+    def test_characters_and_lengths(self):
+        for name, text, tree in each_file():
+            self.assertRegex(text, r"\A[ -~\n]*\Z")
+            lines = text.split("\n")
+            self.assertLessEqual(len(lines), 400)
+            self.assertLessEqual(max(len(line) for line in lines), 120)
+            for node in functions_in(tree):
+                self.assertLessEqual(node.end_lineno - node.lineno + 1, 40, node.name)
+
+    def test_words(self):
+        for name, text, tree in each_file():
+            words = re.findall(r"\w+", text)
+            self.assertEqual([word for word in words if word in BARRED_WORDS], [])
+            for part in ("dataclass", "overload", "contextmanager"):
+                self.assertNotIn(part, text)
+
+    def test_imports(self):
+        for name, text, tree in each_file():
+            for node in ast.walk(tree):
+                if isinstance(node, ast.ImportFrom):
+                    self.assertIn(node, tree.body)
+                    self.assertEqual(node.level, 0)
+                    self.assertRegex(node.module, r"\Acardboxes\.[a-z_]+\Z")
+                    source = ast.parse(read(node.module.split(".")[1] + ".py"))
+                    made = [one for one in source.body if not isinstance(one, ast.ImportFrom)]
+                    for alias in node.names:
+                        self.assertIn(alias.name, module_names(ast.Module(made, [])))
+
+    def test_module_level(self):
+        for name, text, tree in each_file():
+            bound = module_names(tree)
+            self.assertEqual(len(bound), len(set(bound)))
+            self.assertIsInstance(tree.body[0], ast.Expr)
+            for node in tree.body[1:]:
+                self.assertIsInstance(node, (ast.Assign, ast.ImportFrom, ast.FunctionDef, ast.ClassDef))
+
+    def test_names(self):
+        for name, text, tree in each_file():
+            taken = [one for node in tree.body if isinstance(node, (ast.ImportFrom, ast.ClassDef, ast.FunctionDef))
+                     for one in module_names(ast.Module([node], []))]
+            for function in functions_in(tree):
+                for local in local_names(function):
+                    self.assertNotIn(local, taken)
+            for local in local_names(tree) + module_names(tree):
+                self.assertFalse(local.startswith("_"), local)
+                self.assertFalse(hasattr(builtins, local), local)
+
+    def test_builtins_and_methods(self):
+        for name, text, tree in each_file():
+            own = [node.name for node in functions_in(tree)]
+            known = set(local_names(tree) + module_names(tree) + own + BUILTINS)
+            for node in ast.walk(tree):
+                if isinstance(node, ast.Name):
+                    self.assertIn(node.id, known)
+                if isinstance(node, ast.Call) and isinstance(node.func, ast.Attribute):
+                    self.assertIn(node.func.attr, METHODS + own)
+
+    def test_expressions(self):
+        for name, text, tree in each_file():
+            for node in ast.walk(tree):
+                self.assertNotIsInstance(node, BARRED_NODES)
+                if isinstance(node, ast.Constant):
+                    self.assertNotIsInstance(node.value, (float, complex))
+                    self.assertNotIn("%", str(node.value))
+                if isinstance(node, ast.BinOp) and isinstance(node.op, ast.Pow):
+                    self.assertIsInstance(node.right, ast.Constant)
+                if isinstance(node, ast.Compare):
+                    for sign, side in zip(node.ops, node.comparators):
+                        if isinstance(sign, (ast.Is, ast.IsNot)):
+                            self.assertIn(ast.dump(side), [ast.dump(ast.Constant(one)) for one in (None, True, False)])
+
+    def test_escapes(self):
+        for name in package_files():
+            with open(os.path.join(PACKAGE, name), "rb") as file:
+                for token in tokenize.tokenize(file.readline):
+                    if token.type == tokenize.STRING:
+                        self.assertEqual(re.findall(r"\\[^nt\\'\"]", token.string), [])
+
+
+if __name__ == "__main__":
+    unittest.main()
