@@ -8,6 +8,22 @@ def is_number(value):
     return isinstance(value, int) and not isinstance(value, bool)
 
 
+def is_pair(value):
+    """Return whether the value is a tuple of two items."""
+    return isinstance(value, tuple) and len(value) == 2
+
+
+def is_selection(choices, value):
+    """Return whether the value is a tuple with one number from each of the lists, in their order."""
+    if not isinstance(value, tuple) or len(value) != len(choices):
+        return False
+    for choice, item in zip(choices, value):
+        # A bool equals a number, so membership alone would let it pass.
+        if not is_number(item) or item not in choice:
+            return False
+    return True
+
+
 def is_card(n, value):
     """Return whether the value is a card of n switches."""
     return is_number(value) and 0 <= value < (1 << n)
@@ -20,7 +36,7 @@ def is_box(value):
 
 def box_error(value):
     """Return None for a box, otherwise the first error as (index or None, word)."""
-    if not isinstance(value, tuple) or len(value) != 2:
+    if not is_pair(value):
         return (None, "tuple")
     n, cards = value
     if not is_number(n) or n < 0 or n > MAX_SWITCHES:

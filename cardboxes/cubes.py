@@ -1,6 +1,6 @@
 """Cubes in boxes, and the sets of switches that are solid."""
 
-from cardboxes.boxes import is_number, sets_outside, size_of, subsets_of
+from cardboxes.boxes import is_number, is_pair, is_selection, sets_outside, size_of, subsets_of
 
 
 def cube_cards(cube):
@@ -44,7 +44,7 @@ def solid_certificate(box, switches):
 
 def solid_holds(box, switches, value):
     """Return whether the value proves that the set is solid, or that it is not."""
-    if not isinstance(value, tuple) or len(value) != 2:
+    if not is_pair(value):
         return False
     word, proof = value
     if word == "solid":
@@ -55,14 +55,8 @@ def solid_holds(box, switches, value):
 def broken_holds(box, switches, value):
     """Return whether the value is a tuple with one card outside of the box for each possible base."""
     n, cards = box
-    bases = sets_outside(n, switches)
-    if not isinstance(value, tuple) or len(value) != len(bases):
-        return False
-    for base, card in zip(bases, value):
-        # A bool equals a card, so membership alone would let it pass.
-        if not is_number(card) or card in cards or card not in cube_cards((base, switches)):
-            return False
-    return True
+    cubes = [cube_cards((base, switches)) for base in sets_outside(n, switches)]
+    return is_selection([[card for card in cube if card not in cards] for cube in cubes], value)
 
 
 def all_cubes(box):

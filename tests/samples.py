@@ -5,6 +5,7 @@ each switch, so that they share no step with the package.
 """
 
 import copy
+import functools
 import itertools
 import random
 import unittest
@@ -26,7 +27,11 @@ OTHER_VALUES = NOT_NUMBERS + (
     ("solid",), ("solid", 0), ("solid", None), ("broken", ()), ("broken", (0,)),
     ("broken", [0]), ["solid", 0], ("solid", (0,)), ("broken", 0), ("Solid", 0),
     ("solid", 0, 0), {"solid": 0}, ("solid", True), ("solid", False), ("solid", -1),
-    ("shown", (0,)), ("missing", 0),
+    ("shown", (0,)), ("missing", 0), "shown", "missing", ("shown",), ("missing",), ("shown", ()), ("shown", [0]),
+    ("shown", (0, 1)), ("shown", [0, 1]), ("shown", (0, True)), ("shown", (False, 1)), ("shown", (None,)),
+    ("shown", 0), ("Shown", (0,)), ["shown", (0,)], {"shown": (0,)}, ("shown", (0,), 0),
+    ("missing", 1), ("missing", None), ("missing", False), ("missing", True), ("missing", -1),
+    ("missing", (0,)), ("missing", "0"), ["missing", 0], ("Missing", 0), ("missing", 0, 0),
 )
 
 
@@ -85,6 +90,79 @@ def wanted_cubes(box):
     return tuple(sorted(found))
 
 
+def word_of(n, number):
+    return f"{number:b}".zfill(n)[::-1]
+
+
+def make_patterns(n):
+    """The patterns of all cards on all sets of n switches: [set][card]."""
+    words = [word_of(n, number) for number in range(2 ** n)]
+    return [[number_of(min(pair) for pair in zip(card, switches)) for card in words] for switches in words]
+
+
+PATTERNS = [make_patterns(n) for n in range(7)]
+
+
+def wanted_cards(box, switches):
+    """For each pattern on the set, in ascending order, the list of the cards with it."""
+    n, cards = box
+    table = {pattern: [] for pattern in sorted(PATTERNS[n][switches])}
+    for card in cards:
+        table[PATTERNS[n][switches][card]].append(card)
+    return table
+
+
+def wanted_missing(box, switches):
+    return [pattern for pattern, cards in wanted_cards(box, switches).items() if not cards]
+
+
+def wanted_shown(box):
+    return tuple(switches for switches in range(2 ** box[0]) if not wanted_missing(box, switches))
+
+
+def wanted_solid(box):
+    return tuple(switches for switches in range(2 ** box[0]) if wanted_bases(box, switches))
+
+
+def wanted_rough(box):
+    return min(set(wanted_shown(box)) - set(wanted_solid(box)), default=None)
+
+
+def wanted_shown_certificate(box, switches):
+    missing = wanted_missing(box, switches)
+    if missing:
+        return ("missing", missing[0])
+    return ("shown", tuple(cards[0] for cards in wanted_cards(box, switches).values()))
+
+
+def wanted_shown_holds(box, switches, value):
+    if type(value) is not tuple or len(value) != 2 or type(value[0]) is not str:
+        return False
+    word, proof = value
+    if word == "missing":
+        return type(proof) is int and proof in wanted_missing(box, switches)
+    table = wanted_cards(box, switches)
+    if word != "shown" or type(proof) is not tuple or len(proof) != len(table):
+        return False
+    return all(type(card) is int and card in cards for card, cards in zip(proof, table.values()))
+
+
+def size_in_digits(switches):
+    return f"{switches:b}".count("1")
+
+
+def with_card(box, card):
+    return (box[0], tuple(sorted(box[1] + (card,))))
+
+
+def without_card(box, card):
+    return (box[0], tuple(other for other in box[1] if other != card))
+
+
+def other_cards(box):
+    return [card for card in range(2 ** box[0]) if card not in box[1]]
+
+
 def every_box(n):
     for bits in itertools.product((False, True), repeat=2 ** n):
         yield (n, tuple(card for card, kept in enumerate(bits) if kept))
@@ -113,6 +191,84 @@ def sample_boxes(rounds=3, seed=1):
     for n in range(3, 7):
         found += list(boxes_of(n, rounds, seed))
     return found
+
+
+def grown_boxes(n, step, seed):
+    """Smooth boxes: each card is added if the box stays smooth; every step-th box and the last one."""
+    chance = random.Random(seed * 100 + n)
+    box = (n, ())
+    for card in chance.sample(range(2 ** n), 2 ** n):
+        grown = with_card(box, card)
+        if wanted_rough(grown) is None:
+            box = grown
+            if len(box[1]) % step == 1 % step:
+                yield box
+    yield box
+
+
+def few_changes_box(n, size):
+    """The cards whose digits change at most so often, the first one being compared with 0."""
+    words = {card: "0" + word_of(n, card)[:n] for card in range(2 ** n)}
+    return (n, tuple(card for card, word in words.items() if sum(a != b for a, b in zip(word, word[1:])) <= size))
+
+
+def largest_boxes(n, seed):
+    """Boxes with as many cards as the size of their shown sets allows, with that size."""
+    chance = random.Random(seed * 100 + n)
+    for size in range(n + 1):
+        mask = chance.randrange(2 ** n)
+        near = tuple(card for card in range(2 ** n) if size_in_digits(card ^ mask) <= size)
+        yield size, (n, near)
+        yield size, few_changes_box(n, size)
+
+
+@functools.cache
+def smooth_boxes():
+    """Smooth boxes of zero to six switches, among them all of at most three."""
+    found = [box for n in range(4) for box in every_box(n) if wanted_rough(box) is None]
+    for n in range(4, 7):
+        for turn in range(3):
+            found += list(grown_boxes(n, n - 1, turn))
+        found += [box for size, box in largest_boxes(n, 1)]
+        found += [(n, ())]
+    return found
+
+
+@functools.cache
+def many_boxes():
+    """All boxes of at most three switches, any boxes of four to six, and smooth ones."""
+    found = [box for n in range(4) for box in every_box(n)]
+    for n in range(4, 7):
+        found += list(boxes_of(n, 4, 9))
+    return found + [box for box in smooth_boxes() if box[0] > 3]
+
+
+def places_in(value, path=()):
+    """The paths to the value itself and to all parts of its tuples."""
+    yield path
+    if type(value) is tuple:
+        for index, part in enumerate(value):
+            yield from places_in(part, path + (index,))
+
+
+def replaced(value, path, part):
+    if not path:
+        return part
+    index = path[0]
+    return value[:index] + (replaced(value[index], path[1:], part),) + value[index + 1:]
+
+
+def changed_certificate(value, n, chance):
+    path = chance.choice(list(places_in(value)))
+    old = value
+    for index in path:
+        old = old[index]
+    parts = [chance.randrange(-1, 2 ** n + 2), "solid", "broken", "shown", "missing", *NOT_NUMBERS]
+    if type(old) is tuple:
+        parts += [list(old), old[:-1], old[1:], old + old[-1:], old[::-1]]
+    if type(old) is int:
+        parts += [old + 1, old - 1, old ^ 1, old + 2 ** n, old - 2 ** n, bool(old), str(old), (old,)]
+    return replaced(value, path, chance.choice(parts))
 
 
 class StrictCase(unittest.TestCase):

@@ -6,10 +6,10 @@ import unittest
 
 from tests.samples import (
     CUBES,
-    NOT_NUMBERS,
     OTHER_VALUES,
     StrictCase,
     boxes_of,
+    changed_certificate,
     every_box,
     sample_boxes,
     wanted_bases,
@@ -109,34 +109,6 @@ class AllCubesTest(StrictCase):
         for n in range(7):
             self.same(all_cubes((n, ())), ())
             self.same(cube_counts((n, ())), (0,) * (n + 1))
-
-
-def places_in(value, path=()):
-    """The paths to the value itself and to all parts of its tuples."""
-    yield path
-    if type(value) is tuple:
-        for index, part in enumerate(value):
-            yield from places_in(part, path + (index,))
-
-
-def replaced(value, path, part):
-    if not path:
-        return part
-    index = path[0]
-    return value[:index] + (replaced(value[index], path[1:], part),) + value[index + 1:]
-
-
-def changed_certificate(value, n, chance):
-    path = chance.choice(list(places_in(value)))
-    old = value
-    for index in path:
-        old = old[index]
-    parts = [chance.randrange(-1, 2 ** n + 2), "solid", "broken", *NOT_NUMBERS]
-    if type(old) is tuple:
-        parts += [list(old), old[:-1], old[1:], old + old[-1:], old[::-1]]
-    if type(old) is int:
-        parts += [old + 1, old - 1, old ^ 1, old + 2 ** n, old - 2 ** n, bool(old), str(old), (old,)]
-    return replaced(value, path, chance.choice(parts))
 
 
 class SolidHoldsTest(StrictCase):

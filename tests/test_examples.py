@@ -24,6 +24,31 @@ EXAMPLES_4 = """
 2
 """
 
+EXAMPLES_5 = """
+>>> from cardboxes.shown import patterns_of
+>>> patterns_of((2, (0, 1, 3)), 3)
+(0, 1, 3)
+
+>>> from cardboxes.shown import is_shown
+>>> [is_shown((2, (0, 1, 3)), 1), is_shown((2, (0, 1, 3)), 3)]
+[True, False]
+
+>>> from cardboxes.shown import shown_sets
+>>> box = (3, (1, 2, 3, 4, 5, 6))
+>>> shown_sets(box)
+(0, 1, 2, 3, 4, 5, 6)
+
+>>> from cardboxes.shown import shown_certificate
+>>> box = (2, (0, 1, 3))
+>>> [shown_certificate(box, 1), shown_certificate(box, 3)]
+[('shown', (0, 1)), ('missing', 2)]
+
+>>> from cardboxes.shown import shown_holds
+>>> box = (2, (0, 1, 3))
+>>> [shown_holds(box, 1, ('shown', (0, 3))), shown_holds(box, 1, ('missing', 0))]
+[True, False]
+"""
+
 EXAMPLES_6 = """
 >>> from cardboxes.cubes import cube_cards
 >>> cube_cards((4, 3))
@@ -62,6 +87,31 @@ True
 (3, 2, 0)
 """
 
+EXAMPLES_7 = """
+>>> from cardboxes.smooth import is_smooth
+>>> [is_smooth((2, (0, 1, 3))), is_smooth((2, (0, 3)))]
+[True, False]
+
+>>> from cardboxes.smooth import rough_set
+>>> box = (3, (1, 2, 3, 4, 5, 6))
+>>> rough_set(box)
+3
+
+>>> from cardboxes.smooth import set_counts
+>>> box = (3, (1, 2, 3, 4, 5, 6))
+>>> set_counts(box)
+(4, 6, 7)
+
+>>> from cardboxes.smooth import shown_size
+>>> box = (3, (1, 2, 3, 4, 5, 6))
+>>> shown_size(box)
+2
+
+>>> from cardboxes.smooth import card_bound
+>>> card_bound(3, 2)
+7
+"""
+
 
 def session_result(session):
     """Run the lines of one session and return the repr of its last expression."""
@@ -82,8 +132,14 @@ class ExamplesTest(unittest.TestCase):
     def test_point_4(self):
         self.run_sessions(EXAMPLES_4, 5)
 
+    def test_point_5(self):
+        self.run_sessions(EXAMPLES_5, 5)
+
     def test_point_6(self):
         self.run_sessions(EXAMPLES_6, 8)
+
+    def test_point_7(self):
+        self.run_sessions(EXAMPLES_7, 5)
 
 
 if __name__ == "__main__":

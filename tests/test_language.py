@@ -26,6 +26,20 @@ removeprefix removesuffix isascii isdecimal""".split()
 BARRED_WORDS = """type typing typing_extensions enum Enum IntEnum StrEnum Flag IntFlag Generic Protocol ABC ABCMeta
 namedtuple NamedTuple TypedDict TYPE_CHECKING abstractmethod""".split()
 
+ERROR_BASES = "Exception ValueError KeyError IndexError LookupError ArithmeticError RuntimeError".split()
+
+SPECIAL_METHODS = "__init__ __eq__ __repr__ __str__ __len__".split()
+
+# Methods of builtin values whose names attributes may have all the same.
+SHARED_ATTRIBUTES = "count index title find get join lower upper split strip copy add".split()
+
+BUILTIN_KEYWORDS = {
+    "sorted": ("key", "reverse"), "min": ("key", "default"), "max": ("key", "default"),
+    "sum": ("start",), "enumerate": ("start",), "zip": ("strict",),
+}
+
+TAKES_ITERABLES = "list tuple dict sorted sum any all enumerate zip min max".split()
+
 BARRED_NODES = (
     ast.Import, ast.Global, ast.AsyncFor, ast.AsyncFunctionDef, ast.AsyncWith, ast.Await, ast.Div, ast.MatMult,
 )
@@ -66,6 +80,32 @@ def module_names(tree):
 def local_names(tree):
     names = [node.id for node in ast.walk(tree) if isinstance(node, ast.Name) and not isinstance(node.ctx, ast.Load)]
     return names + [node.arg for node in ast.walk(tree) if isinstance(node, ast.arg)]
+
+
+def classes_in(tree):
+    return [node for node in ast.walk(tree) if isinstance(node, ast.ClassDef)]
+
+
+def method_names(tree):
+    return [node.name for one in classes_in(tree) for node in one.body if isinstance(node, ast.FunctionDef)]
+
+
+def stored_attributes(tree):
+    nodes = [node for node in ast.walk(tree) if isinstance(node, ast.Attribute)]
+    return [node.attr for node in nodes if isinstance(node.ctx, ast.Store)]
+
+
+def called_name(node):
+    """The plain name that a call calls, or None."""
+    return node.func.id if isinstance(node, ast.Call) and isinstance(node.func, ast.Name) else None
+
+
+def parents_in(tree):
+    return {child: node for node in ast.walk(tree) for child in ast.iter_child_nodes(node)}
+
+
+def imported_files(tree):
+    return [node.module.split(".")[1] for node in tree.body if isinstance(node, ast.ImportFrom)]
 
 
 class LanguageTest(unittest.TestCase):
@@ -144,6 +184,60 @@ class LanguageTest(unittest.TestCase):
                     for sign, side in zip(node.ops, node.comparators):
                         if isinstance(sign, (ast.Is, ast.IsNot)):
                             self.assertIn(ast.dump(side), [ast.dump(ast.Constant(one)) for one in (None, True, False)])
+
+    def test_classes(self):
+        for name, text, tree in each_file():
+            for one in classes_in(tree):
+                self.assertIn(one, tree.body)
+                self.assertEqual((one.decorator_list, one.keywords), ([], []))
+                for base in one.bases:
+                    self.assertIn(base.id, ERROR_BASES + module_names(tree))
+                for node in one.body[1:]:
+                    self.assertIsInstance(node, ast.FunctionDef)
+            special = [node.name for node in functions_in(tree) if node.name.startswith("_")]
+            self.assertEqual([one for one in special if one not in SPECIAL_METHODS], [])
+            for node in functions_in(tree):
+                self.assertEqual((node.decorator_list, node.args.posonlyargs), ([], []))
+
+    def test_attributes(self):
+        methods, attributes = [], []
+        for name, text, tree in each_file():
+            methods += method_names(tree)
+            attributes += stored_attributes(tree)
+        self.assertEqual(set(methods) & set(attributes), set())
+        for attribute in set(attributes) - set(SHARED_ATTRIBUTES):
+            for kind in (int, str, bytes, list, tuple, dict, set, BaseException):
+                self.assertFalse(hasattr(kind, attribute), attribute)
+
+    def test_sets_are_not_kept(self):
+        for name, text, tree in each_file():
+            parents = parents_in(tree)
+            for node in ast.walk(tree):
+                if isinstance(node, (ast.Set, ast.SetComp)) or called_name(node) in ("set", "frozenset"):
+                    self.assertIn(called_name(parents[node]), ("sorted", "len"))
+
+    def test_iterated_at_once(self):
+        for name, text, tree in each_file():
+            parents = parents_in(tree)
+            for node in ast.walk(tree):
+                if called_name(node) in ("zip", "enumerate", "reversed", "range"):
+                    above = parents[node]
+                    if not (isinstance(above, (ast.For, ast.comprehension)) and above.iter == node):
+                        self.assertIn(called_name(above), TAKES_ITERABLES)
+
+    def test_keywords_of_builtins(self):
+        for name, text, tree in each_file():
+            for node in ast.walk(tree):
+                if called_name(node) in BUILTINS:
+                    for keyword in node.keywords:
+                        self.assertIn(keyword.arg, BUILTIN_KEYWORDS.get(called_name(node), ()))
+
+    def test_imports_have_no_circle(self):
+        left = {name[:-3]: imported_files(tree) for name, text, tree in each_file()}
+        while left:
+            free = [name for name, needed in left.items() if not set(needed) & set(left)]
+            self.assertNotEqual(free, [], left)
+            left = {name: needed for name, needed in left.items() if name not in free}
 
     def test_escapes(self):
         for name in package_files():
