@@ -8,6 +8,11 @@ def is_number(value):
     return isinstance(value, int) and not isinstance(value, bool)
 
 
+def is_below(value, bound):
+    """Return whether the value is a number from 0 on that is less than the bound."""
+    return is_number(value) and 0 <= value < bound
+
+
 def is_pair(value):
     """Return whether the value is a tuple of two items."""
     return isinstance(value, tuple) and len(value) == 2
@@ -26,7 +31,7 @@ def is_selection(choices, value):
 
 def is_card(n, value):
     """Return whether the value is a card of n switches."""
-    return is_number(value) and 0 <= value < (1 << n)
+    return is_below(value, 1 << n)
 
 
 def is_box(value):
@@ -39,7 +44,7 @@ def box_error(value):
     if not is_pair(value):
         return (None, "tuple")
     n, cards = value
-    if not is_number(n) or n < 0 or n > MAX_SWITCHES:
+    if not is_below(n, MAX_SWITCHES + 1):
         return (None, "switches")
     if not isinstance(cards, tuple):
         return (None, "cards")
@@ -70,6 +75,11 @@ def card_distance(first, second):
 def size_of(switches):
     """Return the number of switches in the set."""
     return sum([(switches >> k) & 1 for k in range(switches.bit_length())])
+
+
+def has_switch(switches, switch):
+    """Return whether the switch belongs to the set, or is on on the card."""
+    return (switches >> switch) & 1 == 1
 
 
 def subsets_of(switches):

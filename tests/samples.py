@@ -94,6 +94,19 @@ def word_of(n, number):
     return f"{number:b}".zfill(n)[::-1]
 
 
+def digits_of(n, number):
+    """The letters of all n switches, switch 0 first; none if there are no switches."""
+    return word_of(n, number)[:n]
+
+
+def digits_in(box):
+    return [digits_of(box[0], card) for card in box[1]]
+
+
+def box_of_digits(n, words):
+    return (n, tuple(sorted({number_of(word) for word in words})))
+
+
 def make_patterns(n):
     """The patterns of all cards on all sets of n switches: [set][card]."""
     words = [word_of(n, number) for number in range(2 ** n)]
@@ -147,6 +160,28 @@ def wanted_shown_holds(box, switches, value):
     return all(type(card) is int and card in cards for card, cards in zip(proof, table.values()))
 
 
+def wanted_flipped(box, switches):
+    n = box[0]
+    exchanged = {("0", "0"): "0", ("1", "0"): "1", ("0", "1"): "1", ("1", "1"): "0"}
+    words = [[exchanged[pair] for pair in zip(word, digits_of(n, switches))] for word in digits_in(box)]
+    return box_of_digits(n, words)
+
+
+def wanted_pressed(box, switch):
+    words = digits_in(box)
+    pressed = []
+    for word in words:
+        off = word[:switch] + "0" + word[switch + 1:]
+        pressed.append(word if off in words else off)
+    return box_of_digits(box[0], pressed)
+
+
+def wanted_pressed_all(box, order):
+    for switch in order:
+        box = wanted_pressed(box, switch)
+    return box
+
+
 def size_in_digits(switches):
     return f"{switches:b}".count("1")
 
@@ -166,6 +201,17 @@ def other_cards(box):
 def every_box(n):
     for bits in itertools.product((False, True), repeat=2 ** n):
         yield (n, tuple(card for card, kept in enumerate(bits) if kept))
+
+
+def closed_box(n, cards):
+    """The box of all subsets of these cards."""
+    return (n, tuple(sorted({part for card in cards for part in PATTERNS[n][card]})))
+
+
+def orders_of(n, many, chance):
+    """The ascending and the descending order, and so many others."""
+    found = [tuple(range(n)), tuple(range(n))[::-1]]
+    return found + [tuple(chance.sample(range(n), n)) for turn in range(many)]
 
 
 def boxes_of(n, rounds, seed):
@@ -276,6 +322,18 @@ class StrictCase(unittest.TestCase):
 
     def same(self, got, wanted, about=None):
         self.assertEqual(repr(got), repr(wanted), about)
+
+    def raises(self, kind, fields, function, *arguments, **named):
+        """The error is of this very class and has these fields; a value is the very one that was passed."""
+        before = copy.deepcopy((arguments, named))
+        with self.assertRaises(Exception) as caught:
+            function(*arguments, **named)
+        error = caught.exception
+        self.assertIs(type(error), kind, (error, arguments))
+        self.same(vars(error), fields)
+        if "value" in fields:
+            self.assertIs(error.value, fields["value"])
+        self.same((arguments, named), before)
 
     def check(self, function, arguments, wanted):
         """The result, the result of an equal call, and that the arguments stay as they are."""

@@ -2,6 +2,8 @@
 
 import unittest
 
+from cardboxes.errors import BoxError
+
 EXAMPLES_4 = """
 >>> from cardboxes.boxes import is_box
 >>> [is_box((2, (0, 1, 3))), is_box((2, (0, 4))), is_box((2, (0, True)))]
@@ -112,14 +114,127 @@ EXAMPLES_7 = """
 7
 """
 
+EXAMPLES_9 = """
+>>> from cardboxes.changes import flip_switches
+>>> flip_switches((2, (0, 1, 3)), 1)
+(2, (0, 1, 2))
+
+>>> from cardboxes.changes import rename_switches
+>>> rename_switches((3, (1,)), (1, 2, 0))
+(3, (4,))
+
+>>> from cardboxes.changes import add_fixed
+>>> add_fixed((2, (0, 1, 3)), True)
+(3, (4, 5, 7))
+
+>>> from cardboxes.changes import add_free
+>>> add_free((1, (0,)))
+(2, (0, 2))
+
+>>> from cardboxes.changes import product_box
+>>> product_box((1, (1,)), (2, (0, 1, 3)))
+(3, (1, 3, 7))
+"""
+
+EXAMPLES_11 = """
+>>> from cardboxes.pressing import press_switch
+>>> [press_switch((2, (2, 3)), 1), press_switch((2, (0, 1, 3)), 1)]
+[(2, (0, 1)), (2, (0, 1, 3))]
+
+>>> from cardboxes.pressing import press_all
+>>> box = (3, (1, 2, 3, 4, 5, 6))
+>>> press_all(box, (0, 1, 2))
+(3, (0, 1, 2, 4, 5, 6))
+
+>>> from cardboxes.pressing import is_closed
+>>> [is_closed((2, (0, 1))), is_closed((2, (0, 3)))]
+[True, False]
+
+>>> from cardboxes.pressing import shown_order
+>>> shown_order(3, 3)
+(2, 0, 1)
+
+>>> from cardboxes.pressing import solid_order
+>>> solid_order(3, 4)
+(2, 0, 1)
+"""
+
+EXAMPLES_12 = """
+>>> from cardboxes.decks import Deck
+>>> str(Deck((2, (0, 1, 3))))
+'2 switches, 3 cards, 0 edits'
+
+>>> from cardboxes.decks import Deck
+>>> deck = Deck((2, (0, 1)))
+>>> deck.add(1)
+raises Present(1)
+
+>>> from cardboxes.decks import Deck
+>>> deck = Deck((2, (2, 3)))
+>>> [deck.press(1), deck.box()]
+[1, (2, (0, 1))]
+
+>>> from cardboxes.decks import Deck
+>>> deck = Deck((2, (0, 1)))
+>>> [deck.add(3), deck.undo(), deck.box()]
+[1, 0, (2, (0, 1))]
+
+>>> from cardboxes.decks import Deck
+>>> deck = Deck((2, (0,)))
+>>> deck.attempt([('add', 1), ('add', 1)])
+raises Rejected(1)
+"""
+
+EXAMPLES_13 = """
+>>> from cardboxes.decks import Deck
+>>> deck = Deck((2, (0, 1)))
+>>> [deck.remove(1), deck.box(), deck.box(version=0)]
+[1, (2, (0,)), (2, (0, 1))]
+
+>>> from cardboxes.decks import Deck
+>>> deck = Deck((2, (0, 3)))
+>>> [deck.shown(), deck.solid(), deck.counts()]
+[(0, 1, 2), (0,), (1, 2, 3)]
+
+>>> from cardboxes.decks import Deck
+>>> deck = Deck((2, (0,)))
+>>> [deck.flip(1), deck.edits()]
+[1, (('flip', 1),)]
+
+>>> from cardboxes.decks import Deck
+>>> deck = Deck((2, (0, 1)))
+>>> [deck.add(3), deck.changes(0)]
+[1, ((2,), (), (2,), ())]
+
+>>> from cardboxes.decks import Deck
+>>> [len(Deck((0, ()))), Deck((1, (0,))) == Deck((1, (0,)))]
+[0, True]
+"""
+
+EXAMPLES_14 = """
+>>> from cardboxes.decks import SmoothDeck
+>>> deck = SmoothDeck((2, (0,)))
+>>> deck.add(3)
+raises Rough(1)
+
+>>> from cardboxes.decks import SmoothDeck
+>>> deck = SmoothDeck((2, (0, 1, 3)))
+>>> [deck.addable(), deck.removable()]
+[(2,), (0, 3)]
+"""
+
 
 def session_result(session):
-    """Run the lines of one session and return the repr of its last expression."""
+    """Run the lines of one session and return the repr of its last expression, or the error that it raises."""
     *lines, last = [line[4:] for line in session.splitlines() if line.startswith(">>> ")]
     names = {}
     for line in lines:
         exec(line, names)
-    return repr(eval(last, names))
+    try:
+        return repr(eval(last, names))
+    except (BoxError, LookupError) as error:
+        fields = ", ".join(repr(value) for value in vars(error).values())
+        return f"raises {type(error).__name__}({fields})"
 
 
 class ExamplesTest(unittest.TestCase):
@@ -140,6 +255,21 @@ class ExamplesTest(unittest.TestCase):
 
     def test_point_7(self):
         self.run_sessions(EXAMPLES_7, 5)
+
+    def test_point_9(self):
+        self.run_sessions(EXAMPLES_9, 5)
+
+    def test_point_11(self):
+        self.run_sessions(EXAMPLES_11, 5)
+
+    def test_point_12(self):
+        self.run_sessions(EXAMPLES_12, 5)
+
+    def test_point_13(self):
+        self.run_sessions(EXAMPLES_13, 5)
+
+    def test_point_14(self):
+        self.run_sessions(EXAMPLES_14, 2)
 
 
 if __name__ == "__main__":

@@ -40,9 +40,14 @@ BUILTIN_KEYWORDS = {
 
 TAKES_ITERABLES = "list tuple dict sorted sum any all enumerate zip min max".split()
 
+# Some of these are allowed in places, but the package has no need of them.
 BARRED_NODES = (
     ast.Import, ast.Global, ast.AsyncFor, ast.AsyncFunctionDef, ast.AsyncWith, ast.Await, ast.Div, ast.MatMult,
+    ast.GeneratorExp, ast.Yield, ast.YieldFrom, ast.Lambda, ast.With, ast.Match, ast.NamedExpr, ast.AnnAssign,
+    ast.Nonlocal, ast.Delete, ast.Assert,
 )
+
+WRITING_NODES = (ast.Assign, ast.AugAssign, ast.For, ast.While, ast.Try)
 
 
 def package_files():
@@ -102,6 +107,15 @@ def called_name(node):
 
 def parents_in(tree):
     return {child: node for node in ast.walk(tree) for child in ast.iter_child_nodes(node)}
+
+
+def own_errors():
+    return [one.name for one in classes_in(ast.parse(read("errors.py")))]
+
+
+def names_in(node):
+    """The names of a handler: one, or several in parentheses."""
+    return [one.id for one in (node.elts if isinstance(node, ast.Tuple) else [node])]
 
 
 def imported_files(tree):
@@ -208,6 +222,79 @@ class LanguageTest(unittest.TestCase):
         for attribute in set(attributes) - set(SHARED_ATTRIBUTES):
             for kind in (int, str, bytes, list, tuple, dict, set, BaseException):
                 self.assertFalse(hasattr(kind, attribute), attribute)
+
+    def test_methods(self):
+        for name, text, tree in each_file():
+            for method in method_names(tree):
+                if method not in METHODS + SPECIAL_METHODS:
+                    for kind in (int, str, bytes, list, tuple, dict, set, BaseException):
+                        self.assertFalse(hasattr(kind, method), method)
+            for node in functions_in(tree):
+                if node.name in METHODS:
+                    self.assertEqual(node.args.kwonlyargs, [], node.name)
+
+    def test_attributes_that_are_read(self):
+        known = list(METHODS) + ["__init__"]
+        for name, text, tree in each_file():
+            known += stored_attributes(tree) + method_names(tree)
+        for name, text, tree in each_file():
+            for node in ast.walk(tree):
+                if isinstance(node, ast.Attribute):
+                    self.assertIn(node.attr, known)
+
+    def test_handlers(self):
+        for name, text, tree in each_file():
+            for node in ast.walk(tree):
+                if isinstance(node, ast.ExceptHandler):
+                    self.assertIsNone(node.name)
+                    for one in names_in(node.type):
+                        self.assertIn(one, own_errors())
+
+    def test_raised_errors_are_made_on_the_spot(self):
+        for name, text, tree in each_file():
+            for node in ast.walk(tree):
+                if isinstance(node, ast.Raise):
+                    self.assertIn(called_name(node.exc), own_errors())
+                    self.assertEqual(node.exc.keywords, [])
+                    self.assertIn(ast.dump(node.cause) if node.cause else None, (None, ast.dump(ast.Constant(None))))
+
+    def test_special_methods(self):
+        for name, text, tree in each_file():
+            for node in functions_in(tree):
+                if node.name in ("__eq__", "__len__", "__str__"):
+                    self.assertIsInstance(node.body[-1], ast.Return)
+                    for part in ast.walk(node):
+                        self.assertNotIsInstance(part, WRITING_NODES)
+                    returned = [part.value for part in ast.walk(node) if isinstance(part, ast.Return)]
+                    for value in returned:
+                        if node.name == "__len__":
+                            self.assertEqual(called_name(value), "len")
+                        if node.name == "__str__":
+                            self.assertIsInstance(value, ast.JoinedStr)
+                if node.name == "__init__":
+                    self.assertEqual([part for part in ast.walk(node) if isinstance(part, ast.Return)], [])
+
+    def test_formatted_texts(self):
+        for name, text, tree in each_file():
+            for node in ast.walk(tree):
+                if isinstance(node, ast.FormattedValue):
+                    self.assertEqual((node.conversion, node.format_spec), (-1, None))
+                    for part in ast.walk(node.value):
+                        self.assertFalse(isinstance(part, ast.Constant) and isinstance(part.value, str))
+
+    def test_no_stars_in_calls(self):
+        for name, text, tree in each_file():
+            for node in ast.walk(tree):
+                if isinstance(node, ast.Call):
+                    self.assertFalse([one for one in node.args if isinstance(one, ast.Starred)])
+                    self.assertFalse([one for one in node.keywords if one.arg is None])
+
+    def test_what_decks_bar(self):
+        # Decks have a method add and their own ==, so sets are not filled and lists are not sorted in place.
+        for name, text, tree in each_file():
+            for node in ast.walk(tree):
+                if isinstance(node, ast.Attribute):
+                    self.assertNotIn(node.attr, ("sort", "discard"))
 
     def test_sets_are_not_kept(self):
         for name, text, tree in each_file():
