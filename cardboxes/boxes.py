@@ -13,6 +13,12 @@ def is_below(value, bound):
     return is_number(value) and 0 <= value < bound
 
 
+def is_one_of(numbers, value):
+    """Return whether the value is one of these numbers."""
+    # A bool equals a number, so membership alone would let it pass.
+    return is_number(value) and value in numbers
+
+
 def is_pair(value):
     """Return whether the value is a tuple of two items."""
     return isinstance(value, tuple) and len(value) == 2
@@ -22,11 +28,7 @@ def is_selection(choices, value):
     """Return whether the value is a tuple with one number from each of the lists, in their order."""
     if not isinstance(value, tuple) or len(value) != len(choices):
         return False
-    for choice, item in zip(choices, value):
-        # A bool equals a number, so membership alone would let it pass.
-        if not is_number(item) or item not in choice:
-            return False
-    return True
+    return all([is_one_of(choice, item) for choice, item in zip(choices, value)])
 
 
 def is_card(n, value):

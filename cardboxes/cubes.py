@@ -1,6 +1,6 @@
 """Cubes in boxes, and the sets of switches that are solid."""
 
-from cardboxes.boxes import is_number, is_pair, is_selection, sets_outside, size_of, subsets_of
+from cardboxes.boxes import is_one_of, is_pair, is_selection, sets_outside, size_of, subsets_of
 
 
 def cube_cards(cube):
@@ -48,7 +48,7 @@ def solid_holds(box, switches, value):
         return False
     word, proof = value
     if word == "solid":
-        return is_number(proof) and proof in bases_of(box, switches)
+        return is_one_of(bases_of(box, switches), proof)
     return word == "broken" and broken_holds(box, switches, proof)
 
 

@@ -1,7 +1,7 @@
 """Decks: boxes that are edited card by card and switch by switch, and undone."""
 
 from cardboxes.bounds import BATCH, MAX_EDITS
-from cardboxes.boxes import box_error, is_below, is_card, is_number, is_pair, opposite_box
+from cardboxes.boxes import box_error, is_below, is_card, is_one_of, is_pair, opposite_box
 from cardboxes.changes import flip_switches
 from cardboxes.cubes import solid_sets
 from cardboxes.errors import (
@@ -49,8 +49,7 @@ def check_new_card(box, value):
 
 def check_old_card(box, value):
     """Raise an error if the value is not a card in the box."""
-    # A bool equals a number, so membership alone would let it pass.
-    if not is_number(value) or value not in box[1]:
+    if not is_one_of(box[1], value):
         raise Absent(value)
 
 

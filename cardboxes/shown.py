@@ -1,6 +1,6 @@
 """Patterns on sets of switches, and the sets that are shown."""
 
-from cardboxes.boxes import is_number, is_pair, is_selection, subsets_of
+from cardboxes.boxes import is_one_of, is_pair, is_selection, subsets_of
 
 
 def patterns_of(box, switches):
@@ -46,4 +46,4 @@ def shown_holds(box, switches, value):
 
 def is_missing(box, switches, value):
     """Return whether the value is a pattern on the set that the box does not show."""
-    return is_number(value) and value in subsets_of(switches) and value not in patterns_of(box, switches)
+    return is_one_of(subsets_of(switches), value) and value not in patterns_of(box, switches)

@@ -114,6 +114,26 @@ EXAMPLES_7 = """
 7
 """
 
+EXAMPLES_8 = """
+>>> from cardboxes.parts import hold_switch
+>>> box = (2, (0, 1, 3))
+>>> [hold_switch(box, 0, True), hold_switch(box, 0, False)]
+[(1, (0, 1)), (1, (0,))]
+
+>>> from cardboxes.parts import drop_switch
+>>> drop_switch((2, (0, 1, 3)), 0)
+(1, (0, 1))
+
+>>> from cardboxes.parts import edge_box
+>>> edge_box((2, (0, 1, 3)), 0)
+(1, (0,))
+
+>>> from cardboxes.parts import project_to
+>>> box = (3, (1, 2, 3, 4, 5, 6))
+>>> project_to(box, 3)
+(2, (0, 1, 2, 3))
+"""
+
 EXAMPLES_9 = """
 >>> from cardboxes.changes import flip_switches
 >>> flip_switches((2, (0, 1, 3)), 1)
@@ -134,6 +154,26 @@ EXAMPLES_9 = """
 >>> from cardboxes.changes import product_box
 >>> product_box((1, (1,)), (2, (0, 1, 3)))
 (3, (1, 3, 7))
+"""
+
+EXAMPLES_10 = """
+>>> from cardboxes.paths import steps_between
+>>> box = (3, (1, 2, 3, 4, 5, 6))
+>>> [steps_between(box, 1, 6), steps_between((2, (0, 3)), 0, 3)]
+[3, None]
+
+>>> from cardboxes.paths import straight_path
+>>> straight_path((2, (0, 1, 3)), 0, 3)
+(0, 1, 3)
+
+>>> from cardboxes.paths import path_holds
+>>> box = (2, (0, 1, 3))
+>>> [path_holds(box, 0, 3, (0, 1, 3)), path_holds(box, 0, 3, (0, 3))]
+[True, False]
+
+>>> from cardboxes.paths import component_cards
+>>> component_cards((2, (0, 3)))
+((0,), (3,))
 """
 
 EXAMPLES_11 = """
@@ -223,6 +263,34 @@ raises Rough(1)
 [(2,), (0, 3)]
 """
 
+EXAMPLES_15 = """
+>>> from cardboxes.texts import card_text
+>>> card_text(3, 6)
+'011'
+
+>>> from cardboxes.texts import box_text
+>>> [box_text((2, (0, 1, 3))), box_text((0, (0,))), box_text((1, ()))]
+['2: 00 10 11', '0: -', '1: none']
+
+>>> from cardboxes.texts import parse_box
+>>> parse_box('2: 00 00')
+raises BadText(2)
+"""
+
+EXAMPLES_16 = """
+>>> from cardboxes.decks import Deck
+>>> from cardboxes.shells import Shell
+>>> shell = Shell(Deck((2, (0, 1))))
+>>> shell.execute('box')
+'2: 00 10'
+
+>>> from cardboxes.decks import Deck
+>>> from cardboxes.shells import Shell
+>>> shell = Shell(Deck((2, (0, 3))))
+>>> [shell.execute('smooth'), shell.execute('why 11'), shell.execute('add 10'), shell.execute('add 10'), shell.execute('smooth')]
+['no 10', 'missing 10', 'ok 1', 'error Present', 'yes']
+"""
+
 
 def session_result(session):
     """Run the lines of one session and return the repr of its last expression, or the error that it raises."""
@@ -256,8 +324,14 @@ class ExamplesTest(unittest.TestCase):
     def test_point_7(self):
         self.run_sessions(EXAMPLES_7, 5)
 
+    def test_point_8(self):
+        self.run_sessions(EXAMPLES_8, 4)
+
     def test_point_9(self):
         self.run_sessions(EXAMPLES_9, 5)
+
+    def test_point_10(self):
+        self.run_sessions(EXAMPLES_10, 4)
 
     def test_point_11(self):
         self.run_sessions(EXAMPLES_11, 5)
@@ -270,6 +344,12 @@ class ExamplesTest(unittest.TestCase):
 
     def test_point_14(self):
         self.run_sessions(EXAMPLES_14, 2)
+
+    def test_point_15(self):
+        self.run_sessions(EXAMPLES_15, 3)
+
+    def test_point_16(self):
+        self.run_sessions(EXAMPLES_16, 2)
 
 
 if __name__ == "__main__":

@@ -1,4 +1,4 @@
-"""Point 2, (a) to (c), (h) and (j), and how the functions of points 5, 6 and 7 go together."""
+"""Point 2, (a) to (c), (h) and (j) for sets, and how the functions of points 5, 6 and 7 go together."""
 
 import itertools
 import random

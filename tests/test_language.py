@@ -176,6 +176,7 @@ class LanguageTest(unittest.TestCase):
                 self.assertFalse(hasattr(builtins, local), local)
 
     def test_builtins_and_methods(self):
+        methods = [method for name, text, tree in each_file() for method in method_names(tree)]
         for name, text, tree in each_file():
             own = [node.name for node in functions_in(tree)]
             known = set(local_names(tree) + module_names(tree) + own + BUILTINS)
@@ -183,7 +184,7 @@ class LanguageTest(unittest.TestCase):
                 if isinstance(node, ast.Name):
                     self.assertIn(node.id, known)
                 if isinstance(node, ast.Call) and isinstance(node.func, ast.Attribute):
-                    self.assertIn(node.func.attr, METHODS + own)
+                    self.assertIn(node.func.attr, METHODS + methods)
 
     def test_expressions(self):
         for name, text, tree in each_file():
@@ -309,7 +310,8 @@ class LanguageTest(unittest.TestCase):
             for node in ast.walk(tree):
                 if called_name(node) in ("zip", "enumerate", "reversed", "range"):
                     above = parents[node]
-                    if not (isinstance(above, (ast.For, ast.comprehension)) and above.iter == node):
+                    turned = called_name(node) == "range" and called_name(above) == "reversed"
+                    if not (isinstance(above, (ast.For, ast.comprehension)) and above.iter == node) and not turned:
                         self.assertIn(called_name(above), TAKES_ITERABLES)
 
     def test_keywords_of_builtins(self):
