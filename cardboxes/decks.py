@@ -218,15 +218,17 @@ class SmoothDeck(Deck):
         """Add a card and return the new version, if the box stays smooth."""
         self.check_room()
         check_new_card(self.box(), card)
-        check_smooth(with_card(self.box(), card))
-        return self.stand("add", card, with_card(self.box(), card))
+        after = with_card(self.box(), card)
+        check_smooth(after)
+        return self.stand("add", card, after)
 
     def remove(self, card):
         """Remove a card and return the new version, if the box stays smooth."""
         self.check_room()
         check_old_card(self.box(), card)
-        check_smooth(without_card(self.box(), card))
-        return self.stand("remove", card, without_card(self.box(), card))
+        after = without_card(self.box(), card)
+        check_smooth(after)
+        return self.stand("remove", card, after)
 
     def addable(self):
         """Return the ascending tuple of the cards that can be added such that the box stays smooth."""

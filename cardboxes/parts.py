@@ -31,8 +31,9 @@ def edge_box(box, switch):
 
 def project_to(box, switches):
     """Return the box that is left if all switches outside of the set are dropped."""
+    left = box
     # From the highest switch down, so that those still to be dropped keep their numbers.
     for switch in reversed(range(box[0])):
         if not has_switch(switches, switch):
-            box = drop_switch(box, switch)
-    return box
+            left = drop_switch(left, switch)
+    return left

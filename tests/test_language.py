@@ -314,6 +314,17 @@ class LanguageTest(unittest.TestCase):
                     if not (isinstance(above, (ast.For, ast.comprehension)) and above.iter == node) and not turned:
                         self.assertIn(called_name(above), TAKES_ITERABLES)
 
+    def test_loops_leave_alone_what_they_iterate_over(self):
+        for name, text, tree in each_file():
+            for node in ast.walk(tree):
+                if isinstance(node, ast.For):
+                    over = {one.id for one in ast.walk(node.iter) if isinstance(one, ast.Name)}
+                    for part in node.body:
+                        self.assertEqual(over & set(local_names(part)), set())
+                        for one in ast.walk(part):
+                            if isinstance(one, ast.Call) and isinstance(one.func, ast.Attribute):
+                                self.assertNotIn(ast.unparse(one.func.value), over)
+
     def test_keywords_of_builtins(self):
         for name, text, tree in each_file():
             for node in ast.walk(tree):
